@@ -56,7 +56,7 @@ def ask_last(*calls):
     return ask(*calls)[-1]
 
 
-# Of these one tells all that is kept: q by what each word is waited for, the words by their overlaps.
+# Shows a change of q by what each word is waited for, and of a word by its overlaps with the others.
 ALL_WAITS = [wait(i) for i in range(4)]
 ALL_OVERLAPS = [overlaps(i, j) for i in range(4) for j in range(4)]
 LOOK = ALL_WAITS + ALL_OVERLAPS
