@@ -1,9 +1,12 @@
-"""Writes calls down as the list that answers takes, and takes its answers apart again."""
+"""Writes calls down as the list that answers takes, takes its answers apart again, and goes through all words."""
+
+import itertools
 
 from wordwait.desk import answers
 
 FAR_OUTSIDE = (-2147483648, 2147483647)
 NO_WORD = (-1, 4) + FAR_OUTSIDE
+NO_LENGTH = (-1, 21) + FAR_OUTSIDE
 
 DONE = [0]
 REFUSED = [-1]
@@ -25,6 +28,26 @@ def overlaps(i, j):
 
 def wait(i):
     return [4, i]
+
+
+def without(i, n):
+    return [5, i, n]
+
+
+def firsts(i, n):
+    return [6, i, n]
+
+
+def before(i, j, n):
+    return [7, i, j, n]
+
+
+def chance(i, j):
+    return [8, i, j]
+
+
+def rival(i, most):
+    return [9, i, most]
 
 
 def line(*calls):
@@ -62,6 +85,39 @@ ALL_OVERLAPS = [overlaps(i, j) for i in range(4) for j in range(4)]
 LOOK = ALL_WAITS + ALL_OVERLAPS
 
 
+# Four words that differ, for tests that a call changes none of them.
+KEPT_WORDS = [letters(3), word(0, [2, 2]), word(1, [2, 1, 2]), word(2, [1, 2]), word(3, [0, 1])]
+
+
+def look_behind(*calls):
+    """What LOOK answers behind KEPT_WORDS and these calls."""
+    return ask(*KEPT_WORDS, *calls, *LOOK)[len(KEPT_WORDS) + len(calls):]
+
+
 def all_letter_0(q):
     """What LOOK answers when each of the four words is the letter 0."""
     return [[0, q]] * 4 + [[1]] * 16
+
+
+def rows_of(q, size):
+    return [list(row) for row in itertools.product(range(q), repeat=size)]
+
+
+def rows_up_to(q, most):
+    return [row for size in range(1, most + 1) for row in rows_of(q, size)]
+
+
+def stands_in(a, b):
+    return any(b[start:start + len(a)] == a for start in range(len(b)))
+
+
+def is_at_end_for_the_first_time(a, row):
+    return stands_in(a, row) and not stands_in(a, row[:-1])
+
+
+def overlap_list(a, b):
+    return [k for k in range(1, min(len(a), len(b)) + 1) if a[-k:] == b[:k]]
+
+
+def conway(q, a, b):
+    return sum(q ** k for k in overlap_list(a, b))

@@ -1,9 +1,8 @@
 """Promise 5: wait."""
 
-import itertools
 import unittest
 
-from calls import BEGIN, LOOK, NO_WORD, REFUSED, ask, ask_last, letters, line, wait, word
+from calls import BEGIN, NO_WORD, REFUSED, ask, ask_last, letters, line, look_behind, rows_up_to, wait, word
 from wordwait.desk import answers
 
 
@@ -71,10 +70,9 @@ class WaitTest(unittest.TestCase):
 
     def test_is_how_long_the_word_is_waited_for(self):
         for q, most in ((2, 6), (3, 4), (4, 3)):
-            for size in range(1, most + 1):
-                for row in itertools.product(range(q), repeat=size):
-                    with self.subTest(q=q, row=row):
-                        self.assertEqual(told_wait(q, row), [0, mean_wait(q, list(row))])
+            for row in rows_up_to(q, most):
+                with self.subTest(q=q, row=row):
+                    self.assertEqual(told_wait(q, row), [0, mean_wait(q, row)])
 
     def test_i_outside_0_to_3_is_refused(self):
         for i in NO_WORD:
@@ -82,11 +80,9 @@ class WaitTest(unittest.TestCase):
                 self.assertEqual(answers(line(BEGIN, wait(i))), [1, 0] + [1] + REFUSED)
 
     def test_changes_nothing(self):
-        kept_words = [letters(3), word(0, [2, 2]), word(1, [2, 1, 2]), word(2, [1, 2]), word(3, [0, 1])]
-        kept = ask(*kept_words, *LOOK)[5:]
         for i in (0, 3) + NO_WORD:
             with self.subTest(i=i):
-                self.assertEqual(ask(*kept_words, wait(i), *LOOK)[6:], kept)
+                self.assertEqual(look_behind(wait(i)), look_behind())
 
 
 if __name__ == "__main__":

@@ -1,1 +1,1 @@
-"""Four words over two to six letters, how they overlap and how long each is waited for."""
+"""Four words over two to six letters: how they overlap, how long each is waited for, and which comes first."""

@@ -7,6 +7,11 @@ LETTERS = 1
 WORD = 2
 OVERLAPS = 3
 WAIT = 4
+WITHOUT = 5
+FIRSTS = 6
+BEFORE = 7
+CHANCE = 8
+RIVAL = 9
 
 
 class UnknownCall(ValueError):
@@ -48,6 +53,22 @@ def answer_call(words, line):
         return words.overlaps(i, line.take_number())
     if call == WAIT:
         return words.wait(line.take_number())
+    if call == WITHOUT:
+        i = line.take_number()
+        return words.without(i, line.take_number())
+    if call == FIRSTS:
+        i = line.take_number()
+        return words.firsts(i, line.take_number())
+    if call == BEFORE:
+        i = line.take_number()
+        j = line.take_number()
+        return words.before(i, j, line.take_number())
+    if call == CHANCE:
+        i = line.take_number()
+        return words.chance(i, line.take_number())
+    if call == RIVAL:
+        i = line.take_number()
+        return words.rival(i, line.take_number())
     raise UnknownCall(f"no call has the number {call}")
 
 
